@@ -1,0 +1,1 @@
+"""Topstretch: the best stretch of a row or a ring."""
