@@ -3,6 +3,7 @@ import unittest
 from tests.plain_walk import (
     FAR,
     NUMBER_OF_32_FIGURES,
+    all_lengths,
     all_stretches,
     best_among,
     mixed_row,
@@ -19,13 +20,6 @@ NO_LENGTHS = [
     (2, 1), (6, 5), (1, 0), (1, -1), (3, -FAR), (1, -FAR),
     (7, 7), (7, 8), (7, FAR), (FAR, FAR), (FAR, FAR + 1), (7, 6), (FAR, 6),
 ]
-
-
-def all_lengths(row):
-    for least in range(1, len(row) + 1):
-        for most in range(least, len(row) + 3):
-            yield least, most
-        yield least, FAR
 
 
 class RefusesLengths(unittest.TestCase):
