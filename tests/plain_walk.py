@@ -87,3 +87,9 @@ def mixed_row(many, seed, spread):
 def mixed_rows(how_many, longest, spread):
     for seed in range(how_many):
         yield mixed_row(1 + seed % longest, seed, spread)
+
+
+def mixed_changes(row, many, seed, spread):
+    """So many changes of a row, tuples (place, number), that look mixed but are the same each time."""
+    places = mixed_row(many, seed, 10 ** 6)
+    return [(place % len(row), number) for place, number in zip(places, mixed_row(many, seed + 1, spread))]

@@ -135,3 +135,25 @@ class TestLanguage(unittest.TestCase):
         for where, node in self.nodes(ast.Call):
             if isinstance(node.func, ast.Attribute):
                 self.assertIn(node.func.attr, METHODS_OF_PYTHON | own, where)
+
+    def test_no_two_files_draw_from_one_another(self):
+        draws = {}
+        for path, tree in self.trees.items():
+            modules = [node.module for node in ast.walk(tree) if isinstance(node, ast.ImportFrom)]
+            draws[path.stem] = {module.split(".")[-1] for module in modules}
+        while draws:
+            ends = {name for name, drawn in draws.items() if not drawn}
+            self.assertTrue(ends, draws)
+            draws = {name: drawn - ends for name, drawn in draws.items() if name not in ends}
+
+    def test_values_of_objects(self):
+        of_python = set()
+        for kind in (str, int, list, tuple, dict, set, bytes):
+            of_python.update(dir(kind))
+        values = {node.attr for _, node in self.nodes(ast.Attribute) if isinstance(node.ctx, ast.Store)}
+        methods = set()
+        for _, node in self.nodes(ast.ClassDef):
+            methods.update(getattr(one, "name", "") for one in node.body)
+        self.assertEqual(values & of_python, set())
+        self.assertEqual((methods - DUNDERS) & of_python, set())
+        self.assertEqual(values & methods, set())
